@@ -1,0 +1,1 @@
+"""Boxes read off a belt of numbers, and parcels put together of them."""
