@@ -22,3 +22,11 @@ def escaped(numbers):
     for number in numbers:
         signs.extend(escape_of(number))
     return signs
+
+
+def meaning_behind_escape(number):
+    if number == TELLS_ESCAPE:
+        return ESCAPE
+    if number == TELLS_BEGINNING:
+        return BEGINNING
+    return None

@@ -2,12 +2,7 @@ import itertools
 import unittest
 
 from beltboxes.checks import check_of
-
-
-def by_the_words(numbers):
-    """The check numbers as point 4 of the document tells them, step by step."""
-    sums = list(itertools.accumulate(numbers))
-    return [sum(numbers) % 256, sum(sums) % 256]
+from tests.words import check_words
 
 
 class CheckOf(unittest.TestCase):
@@ -55,13 +50,13 @@ class CheckOf(unittest.TestCase):
         self.check([126, 125], [251, 121])
 
     def test_all_numbers_in_a_row(self):
-        self.check(list(range(256)), by_the_words(list(range(256))))
+        self.check(list(range(256)), check_words(list(range(256))))
 
     def test_short_lists_by_the_words(self):
         choice = (0, 1, 2, 125, 126, 128, 254, 255)
         for length in range(5):
             for numbers in itertools.product(choice, repeat=length):
-                self.check(list(numbers), by_the_words(numbers))
+                self.check(list(numbers), check_words(numbers))
 
     def test_long_lists(self):
         # 5000 * 255 is 1275000; 255 times 1 + 2 + .. + 5000 is 3188137500.
@@ -70,7 +65,7 @@ class CheckOf(unittest.TestCase):
         self.check([1] + [0] * 4999, [1, 5000 % 256])
         self.check([0] * 5000, [0, 0])
         mixed = [place * place % 256 for place in range(6000)]
-        self.check(mixed, by_the_words(mixed))
+        self.check(mixed, check_words(mixed))
 
     def test_a_list_of_two_is_given_back(self):
         for numbers in ([], [9], [1, 2], [255] * 5000):

@@ -3,10 +3,7 @@ import unittest
 from beltboxes.checks import check_of
 from beltboxes.errors import BeltError, NoNumber
 from beltboxes.signs import escaped
-
-# Python itself refuses to write out numbers of more than 4300 figures, so some of those are here too.
-BELOW = (-1, -2, -125, -126, -255, -256, -(10**30), -(10**5000))
-ABOVE = (256, 257, 381, 382, 511, 512, 10**30, 2**64, 10**5000)
+from tests.words import ABOVE, BELOW, named
 
 
 def places_for(stranger):
@@ -28,9 +25,7 @@ class Refusals(unittest.TestCase):
         for function in (escaped, check_of):
             for stranger in BELOW + ABOVE:
                 for row, numbers in enumerate(places_for(stranger)):
-                    with self.subTest(
-                        function=function.__name__, bits=stranger.bit_length(), below=stranger < 0, row=row
-                    ):
+                    with self.subTest(function=function.__name__, stranger=named(stranger), row=row):
                         before = list(numbers)
                         with self.assertRaises(NoNumber) as caught:
                             function(numbers)

@@ -1,6 +1,11 @@
-"""Point 1: nothing uses a clock, chance or files. So no file of the package draws from outside it."""
+"""Point 1: nothing uses a clock, chance or files. So no file of the package draws from outside it.
+
+And the interface: its names and arguments are there as they stand.
+"""
 
 import ast
+import importlib
+import inspect
 import pathlib
 import unittest
 
@@ -8,6 +13,19 @@ import beltboxes
 
 FOLDER = pathlib.Path(beltboxes.__file__).parent
 REACHING_OUT = {"open", "input", "print", "eval", "exec", "compile", "__import__", "id", "hash", "globals"}
+INTERFACE = {
+    "signs": {"escaped": ["numbers"]},
+    "checks": {"check_of": ["numbers"]},
+    "writing": {"written": ["boxes"]},
+    "reading": {
+        "begun": [],
+        "fed": ["state", "piece", "most"],
+        "ended": ["state"],
+        "told_by": ["pieces", "most"],
+    },
+    "parcels": {"boxes_of": ["parcel", "many"], "mixed": ["parcels", "many"], "sent": ["parcels", "many"]},
+    "unpacking": {"unpacked": ["told"], "waiting": ["told"], "faults": ["told"]},
+}
 
 
 def trees():
@@ -17,7 +35,7 @@ def trees():
 class NothingFromOutside(unittest.TestCase):
     def test_there_are_files(self):
         self.assertLessEqual(
-            {"__init__.py", "errors.py", "signs.py", "checks.py"},
+            {"__init__.py", "errors.py"} | {f"{module}.py" for module in INTERFACE},
             {name for name, tree in trees()},
         )
 
@@ -35,6 +53,15 @@ class NothingFromOutside(unittest.TestCase):
             names = {node.id for node in ast.walk(tree) if isinstance(node, ast.Name)}
             with self.subTest(file=name):
                 self.assertEqual(names & REACHING_OUT, set())
+
+
+class Interface(unittest.TestCase):
+    def test_names_and_arguments(self):
+        for module, functions in INTERFACE.items():
+            for name, arguments in functions.items():
+                with self.subTest(module=module, name=name):
+                    function = getattr(importlib.import_module(f"beltboxes.{module}"), name)
+                    self.assertEqual(list(inspect.signature(function).parameters), arguments)
 
 
 if __name__ == "__main__":

@@ -2,6 +2,7 @@ import itertools
 import unittest
 
 from beltboxes.signs import escaped
+from tests.words import assert_same
 
 
 def read_back(signs):
@@ -14,14 +15,6 @@ def read_back(signs):
             number = {1: 125, 2: 126}[rest.pop(0)]
         numbers.append(number)
     return numbers
-
-
-def assert_same(case, answer, expected):
-    # assertEqual would work on the difference of two long lists for many minutes.
-    if len(expected) > 300:
-        case.assertTrue(answer == expected, "the long lists differ")
-    else:
-        case.assertEqual(answer, expected)
 
 
 class Escaped(unittest.TestCase):
